@@ -14,17 +14,32 @@ NUMBERS = {
     "leans": 8,
     "all_leans": 9,
     "lean": 10,
+    "turn": 11,
+    "spare": 12,
+    "spares": 13,
+    "put": 14,
+    "would": 15,
+    "falls": 16,
+    "stiff": 17,
+    "flip": 18,
+    "ties": 19,
+    "state": 20,
 }
 
 HUGE = 4294967295
 
 
 def written(calls):
-    """One list of whole numbers for calls like ("tie", 0, 1, 0)."""
+    """One list of whole numbers for calls like ("tie", 0, 1, 0) and ("turn", [0, 1, 1])."""
     numbers = []
     for call in calls:
         numbers.append(NUMBERS[call[0]])
-        numbers.extend(call[1:])
+        for given in call[1:]:
+            if isinstance(given, list):
+                numbers.append(len(given))
+                numbers.extend(given)
+            else:
+                numbers.append(given)
     return numbers
 
 
@@ -53,6 +68,21 @@ def ask_last(*calls):
     return ask(*calls)[-1]
 
 
+def ask_behind(made, *calls):
+    """What is answered to the calls behind those that made the wall."""
+    return ask(*made, *calls)[len(made):]
+
+
+def first_difference(told, asked_for):
+    """Where two long lists differ, else None; unittest's own telling of it takes minutes for some."""
+    if len(told) != len(asked_for):
+        return (len(told), len(asked_for))
+    for place, both in enumerate(zip(told, asked_for)):
+        if both[0] != both[1]:
+            return (place,) + both
+    return None
+
+
 def wall(rows, columns, spots):
     """The calls that make a wall with ties at these spots."""
     return [("begin", rows, columns)] + [("tie",) + spot for spot in spots]
@@ -78,7 +108,44 @@ EVERY_CALL_BUT_BEGIN = [
     ("leans", 0, 0, 0),
     ("all_leans",),
     ("lean", 0, 0, 0),
+    ("turn", [0, 0]),
+    ("spare", 0, 0, 0),
+    ("spares",),
+    ("put",),
+    ("would", 0, 0, 0),
+    ("falls", 0, 0, 0),
+    ("stiff", 0, 0),
+    ("flip", 0, 0, 0),
+    ("ties",),
+    ("state",),
 ]
 
 # All that can be asked without an argument, and so of any wall: together they tell all of it.
-LOOK = [("firm",), ("parts",), ("ends",), ("all_leans",)]
+LOOK = [("firm",), ("parts",), ("ends",), ("all_leans",), ("spares",), ("put",), ("ties",), ("state",)]
+
+
+def look_around(made, call):
+    """What a call behind those that made the wall is answered, and all that's told of the wall before and after."""
+    told = ask_behind(made, *LOOK, call, *LOOK)
+    return told[len(LOOK)], told[:len(LOOK)], told[len(LOOK) + 1:]
+
+
+def all_squares(rows, columns):
+    return [(row, column) for row in range(rows) for column in range(columns)]
+
+
+def all_spots(rows, columns):
+    """Squares row by row, in each kind 0 ahead of 1."""
+    return [square + (kind,) for square in all_squares(rows, columns) for kind in (0, 1)]
+
+
+def threes(numbers):
+    """The spots that stand in an answer one behind another."""
+    return [tuple(numbers[at:at + 3]) for at in range(0, len(numbers), 3)]
+
+
+def every_wall(rows, columns):
+    """Each choice of ties there is on a wall of this size."""
+    places = all_spots(rows, columns)
+    for chosen in range(1 << len(places)):
+        yield [spot for place, spot in enumerate(places) if chosen >> place & 1]

@@ -1,8 +1,9 @@
-"""Point 2: firm, reach, part, parts, ends, leans, all; and point 3: lean."""
+"""Point 2: firm, reach, part, parts, ends, leans, all, stiff; and point 3: lean, turn."""
 
 import unittest
 
-from tests.asking import HUGE, JOINED_RINGS, LOOK, RING, RING_WITH_ONE_TURNED, TWO_RINGS, ask, ask_last, wall
+from tests.asking import HUGE, JOINED_RINGS, LOOK, RING, RING_WITH_ONE_TURNED, TWO_RINGS
+from tests.asking import all_spots, all_squares, ask, ask_behind, ask_last, look_around, wall
 
 BOTH = [(0, 0, 0), (0, 0, 1)]
 
@@ -224,19 +225,144 @@ class Lean(unittest.TestCase):
             self.assertLessEqual(turns[tied_kind], turns[1 - tied_kind])
 
 
+class Turn(unittest.TestCase):
+    def turned(self, made, *ways):
+        return ask_behind(made, *[("turn", list(way)) for way in ways])
+
+    def test_one_square(self):
+        ways = [(0, 0), (0, 1), (1, 0), (1, 1)]
+        self.assertEqual(self.turned(wall(1, 1, []), *ways), [[1, 0], [1, 1], [1, 1], [1, 0]])
+        self.assertEqual(self.turned(wall(1, 1, BOTH[:1]), *ways), [[1, 0], [1, 1], [0, 1], [1, 0]])
+        self.assertEqual(self.turned(wall(1, 1, BOTH[1:]), *ways), [[1, 0], [0, 1], [1, 1], [1, 0]])
+        self.assertEqual(self.turned(wall(1, 1, BOTH), *ways), [[1, 0], [0, 1], [0, 1], [1, 0]])
+
+    def test_all_alike(self):
+        for rows, columns, spots in [(1, 1, BOTH), (2, 2, RING), (4, 4, JOINED_RINGS), (5, 5, []), (3, 5, [(2, 4, 1)])]:
+            for much in (0, 1, 7, HUGE):
+                with self.subTest(rows=rows, columns=columns, much=much):
+                    way = [much] * (rows + columns)
+                    self.assertEqual(self.turned(wall(rows, columns, spots), way), [[1, 0]])
+
+    def test_how_much_further_does_not_matter(self):
+        one = wall(1, 1, BOTH[:1])
+        self.assertEqual(self.turned(one, (5, 6), (0, HUGE), (HUGE - 1, HUGE)), [[1, 1]] * 3)
+        self.assertEqual(self.turned(one, (6, 5), (HUGE, 0), (HUGE, HUGE - 1)), [[0, 1]] * 3)
+
+    def test_row_and_column_are_not_taken_for_one_another(self):
+        # Row 1 no further than column 2; of 2 rows and 3 columns.
+        made = wall(2, 3, [(1, 2, 0)])
+        self.assertEqual(self.turned(made, (0, 1, 0, 0, 0), (0, 1, 0, 0, 1)), [[0, 3], [1, 3]])
+        # Column 0 no further than row 2; of 3 rows and 2 columns.
+        made = wall(3, 2, [(2, 0, 1)])
+        self.assertEqual(self.turned(made, (0, 0, 0, 1, 0), (0, 0, 1, 1, 0)), [[0, 3], [1, 3]])
+
+    def test_squares_that_do_not_turn_by_as_much(self):
+        made = wall(2, 3, [])
+        for way, uneven in [((1, 2, 1, 2, 3), 4), ((1, 1, 1, 1, 2), 2), ((1, 2, 3, 4, 5), 6), ((9, 8, 9, 9, 9), 3)]:
+            with self.subTest(way=way):
+                self.assertEqual(self.turned(made, way), [[1, uneven]])
+        self.assertEqual(self.turned(wall(5, 5, []), (0,) * 5 + (1,) * 5), [[1, 25]])
+
+    def test_one_tie_that_is_not_kept_is_enough(self):
+        for spot in RING:
+            held = spot[0] if spot[2] == 0 else 2 + spot[1]
+            # Each strip of a ring is held by one tie alone: the others are kept.
+            way = [0] * 4
+            way[held] = 1
+            others = [tie for tie in RING if tie != spot]
+            for spots in ([spot] + others, others + [spot]):
+                with self.subTest(spots=spots):
+                    self.assertEqual(self.turned(wall(2, 2, spots), way), [[0, 2]])
+                    self.assertEqual(self.turned(wall(2, 2, others), way), [[1, 2]])
+
+    def test_a_way_told_by_lean(self):
+        high_and_narrow = [(4, 2, 0), (0, 2, 1)]
+        for rows, columns, spots in [(2, 2, RING_WITH_ONE_TURNED), (4, 4, JOINED_RINGS), (5, 3, high_and_narrow)]:
+            made = wall(rows, columns, spots)
+            for spot in all_spots(rows, columns):
+                told = ask_last(*made, ("lean",) + spot)
+                if told != [-33]:
+                    keeps, uneven = self.turned(made, told[1:])[0]
+                    self.assertEqual(keeps, 1)
+                    self.assertGreater(uneven, 0)
+
+    def test_not_one_number_for_each_strip(self):
+        for rows, columns in [(1, 1), (2, 3), (3, 2), (5, 5), (1, 5)]:
+            for length in range(13):
+                with self.subTest(rows=rows, columns=columns, length=length):
+                    told = self.turned(wall(rows, columns, BOTH), [0] * length)
+                    self.assertEqual(told, [[1, 0]] if length == rows + columns else [[-22]])
+
+    def test_the_next_call_stands_behind_it(self):
+        for length in range(13):
+            for much in (0, 1, 3, HUGE):
+                with self.subTest(length=length, much=much):
+                    told = ask(("begin", 2, 3), ("turn", [much] * length), ("state",), ("turn", []), ("firm",))
+                    self.assertEqual(told[1], [1, 0] if length == 5 else [-22])
+                    self.assertEqual(told[2:], [[2, 3, 0, 5], [-22], [0, 5]])
+
+    def test_the_next_call_stands_behind_it_where_there_is_no_wall_yet(self):
+        for length in range(13):
+            with self.subTest(length=length):
+                told = ask(("turn", [0] * length), ("begin", 1, 1), ("turn", [0, 1]), ("firm",))
+                self.assertEqual(told, [[-11], [0], [1, 1], [0, 2]])
+
+
+class Stiff(unittest.TestCase):
+    def test_one_square(self):
+        for spots, told in [([], [0, 0]), (BOTH[:1], [0, 0]), (BOTH[1:], [0, 0]), (BOTH, [1, 1]), (BOTH[::-1], [1, 1])]:
+            with self.subTest(spots=spots):
+                self.assertEqual(ask_last(*wall(1, 1, spots), ("stiff", 0, 0)), told)
+
+    def test_held_by_others(self):
+        for square in all_squares(2, 2):
+            with self.subTest(square=square):
+                self.assertEqual(ask_last(*wall(2, 2, RING), ("stiff",) + square), [1, 0])
+                self.assertEqual(ask_last(*wall(2, 2, RING_WITH_ONE_TURNED), ("stiff",) + square), [0, 0])
+        # Three sides of a ring in both kinds hold the fourth square, which has no tie.
+        bars = [(row, column, kind) for row, column in [(0, 0), (1, 0), (1, 1)] for kind in (0, 1)]
+        told = ask_behind(wall(2, 2, bars), *[("stiff",) + square for square in all_squares(2, 2)])
+        self.assertEqual(told, [[1, 1], [1, 0], [1, 1], [1, 1]])
+
+    def test_joined_rings(self):
+        told = ask_behind(wall(4, 4, JOINED_RINGS), *[("stiff",) + square for square in all_squares(4, 4)])
+        self.assertEqual(told, [[1, 0], [1, 0], [0, 0], [0, 0]] * 2 + [[0, 0], [0, 0], [1, 0], [1, 0]] * 2)
+
+    def test_row_and_column_are_not_taken_for_one_another(self):
+        told = ask_behind(wall(2, 3, [(1, 0, 0), (1, 0, 1)]), *[("stiff",) + square for square in all_squares(2, 3)])
+        self.assertEqual(told, [[0, 0], [0, 0], [0, 0], [1, 1], [0, 0], [0, 0]])
+
+    def test_none_such(self):
+        asked = [("stiff", 2, 0), ("stiff", 0, 3), ("stiff", 2, 3), ("stiff", HUGE, 0), ("stiff", 0, HUGE)]
+        self.assertEqual(ask_behind(wall(2, 3, BOTH), *asked, ("stiff", 1, 2)), [[-2]] * 5 + [[0, 0]])
+
+
 class Asking(unittest.TestCase):
     def test_changes_nothing(self):
-        for call in LOOK + [("reach", 2), ("part", 1), ("leans", 0, 1, 1), ("lean", 0, 1, 1), ("lean", 0, 0, 0)]:
+        others = [("reach", 2), ("part", 1), ("leans", 0, 1, 1), ("lean", 0, 1, 1), ("stiff", 0, 0), ("turn", [1] * 4)]
+        for call in LOOK + others:
             with self.subTest(call=call):
-                told = ask(*wall(2, 2, RING_WITH_ONE_TURNED), *LOOK, call, *LOOK)
-                self.assertEqual(told[10:], told[5:9])
+                told, before, after = look_around(wall(2, 2, RING_WITH_ONE_TURNED), call)
+                self.assertGreaterEqual(told[0], 0)
+                self.assertEqual(after, before)
 
     def test_refused_changes_nothing(self):
-        for call in [("reach", 4), ("part", HUGE), ("leans", 2, 0, 0), ("lean", 0, 0, 2), ("lean", 0, 1, 0)]:
+        for call, refusal in [
+            (("reach", 4), -2),
+            (("part", HUGE), -2),
+            (("leans", 2, 0, 0), -2),
+            (("lean", 0, 0, 2), -2),
+            (("lean", 0, 1, 0), -33),
+            (("stiff", 2, 0), -2),
+            (("stiff", 0, HUGE), -2),
+            (("turn", []), -22),
+            (("turn", [0] * 3), -22),
+            (("turn", [HUGE] * 12), -22),
+        ]:
             with self.subTest(call=call):
-                told = ask(*wall(2, 2, RING_WITH_ONE_TURNED), *LOOK, call, *LOOK)
-                self.assertLess(told[9][0], 0)
-                self.assertEqual(told[10:], told[5:9])
+                told, before, after = look_around(wall(2, 2, RING_WITH_ONE_TURNED), call)
+                self.assertEqual(told, [refusal])
+                self.assertEqual(after, before)
 
 
 if __name__ == "__main__":

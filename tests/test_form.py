@@ -144,6 +144,37 @@ class Code(unittest.TestCase):
             self.assertNotIn(name, dir(builtins), where)
             self.assertNotIn(name, UNUSED_NAMES, where)
 
+    def test_no_local_is_called_like_an_import_or_a_class(self):
+        for name, tree in trees():
+            taken = [node.name for node in tree.body if isinstance(node, ast.ClassDef)]
+            for node in tree.body:
+                if isinstance(node, ast.ImportFrom):
+                    taken += [alias.asname or alias.name for alias in node.names]
+            for node in ast.walk(tree):
+                if isinstance(node, ast.arg):
+                    self.assertNotIn(node.arg, taken, name)
+                elif isinstance(node, ast.Name) and isinstance(node.ctx, ast.Store):
+                    self.assertNotIn(node.id, taken, name)
+
+    def test_imports_name_what_is_used_where_it_is_defined(self):
+        defined = {name: [getattr(node, "name", "") for node in tree.body] for name, tree in trees()}
+        for name, tree in trees():
+            defined[name] += [node.targets[0].id for node in tree.body if isinstance(node, ast.Assign)]
+        for name, tree in trees():
+            used = [node.id for node in ast.walk(tree) if isinstance(node, ast.Name)]
+            for node in tree.body:
+                if isinstance(node, ast.ImportFrom):
+                    for alias in node.names:
+                        self.assertIn(alias.name, used, name)
+                        self.assertIn(alias.name, defined[node.module.split(".")[1] + ".py"], name)
+
+    def test_lists_and_dicts_of_a_top_hold_none(self):
+        for name, tree in trees():
+            for node in tree.body:
+                if isinstance(node, ast.Assign):
+                    within = [one for one in ast.walk(node.value) if isinstance(one, (ast.List, ast.Dict, ast.Set))]
+                    self.assertIn(within, ([], [node.value]), name)
+
     def test_pythons_own(self):
         for where, node in nodes(ast.Name):
             if node.id in dir(builtins):

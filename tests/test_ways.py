@@ -1,60 +1,26 @@
 """Every answer held against a second telling of it, by ways to turn (tests/ways.py)."""
 
+import itertools
 import unittest
 
-from tests.asking import HUGE, LOOK, ask, wall
+from tests.asking import LOOK, all_spots, all_squares, ask, every_wall, wall
+from tests.dice import Dice
 from tests.ways import told_by_ways
 
 
 def all_asked(rows, columns):
-    strips = range(rows + columns)
-    squares = [(row, column, kind) for row in range(rows) for column in range(columns) for kind in (0, 1)]
+    """Every question there is, and on the way each tie turned and turned back."""
     asked = list(LOOK)
     for name in ("reach", "part"):
-        asked += [(name, strip) for strip in strips]
-    for name in ("leans", "lean"):
-        asked += [(name,) + spot for spot in squares]
-    return asked
-
-
-class Dice:
-    """Numbers that look thrown, and are the same each time."""
-
-    def __init__(self, seed):
-        self.now = seed
-
-    def below(self, bound):
-        self.now = (self.now * 6364136223846793005 + 1442695040888963407) % (1 << 64)
-        return (self.now >> 33) % bound
-
-    def one_of(self, choices):
-        return choices[self.below(len(choices))]
-
-    def number(self, bound):
-        """Mostly one that's there, sometimes one that isn't."""
-        if self.below(25) == 0:
-            return self.one_of([bound, bound + 1, HUGE])
-        return self.below(bound)
-
-    def call(self, rows, columns):
-        name = self.one_of(["tie"] * 8 + ["free"] * 3 + ["leans", "lean", "reach", "part"] * 2 + [one for one, in LOOK])
-        if name in ("reach", "part"):
-            return (name, self.number(rows + columns))
-        if (name,) in LOOK:
-            return (name,)
-        return (name, self.number(rows), self.number(columns), self.number(2))
-
-    def line(self, length):
-        rows, columns = 1 + self.below(5), 1 + self.below(5)
-        calls = [self.call(rows, columns), ("begin", rows, columns)]
-        while len(calls) < length:
-            if self.below(60) == 0:
-                asked = (self.below(7), self.below(7))
-                calls.append(("begin",) + asked)
-                if 1 <= min(asked) and max(asked) <= 5:
-                    rows, columns = asked
-            calls.append(self.call(rows, columns))
-        return calls
+        asked += [(name, strip) for strip in range(rows + columns)]
+    for name in ("leans", "lean", "spare", "would", "falls"):
+        asked += [(name,) + spot for spot in all_spots(rows, columns)]
+    asked += [("stiff",) + square for square in all_squares(rows, columns)]
+    for row, column, kind in all_spots(rows, columns):
+        asked += [("flip", row, column, kind), ("ties",), ("flip", row, column, 1 - kind)]
+    for way in itertools.product((0, 1), repeat=rows + columns):
+        asked.append(("turn", list(way)))
+    return asked + LOOK
 
 
 class AgainstWays(unittest.TestCase):
@@ -64,12 +30,15 @@ class AgainstWays(unittest.TestCase):
             if told[place] != asked_for[place]:
                 self.fail(f"{call} told {told[place]} for {asked_for[place]}, behind {calls[:place]}")
 
-    def test_all_walls_of_at_most_four_squares(self):
-        for rows, columns in [(1, 1), (1, 2), (2, 1), (1, 3), (3, 1), (2, 2), (1, 4), (4, 1)]:
-            squares = [(row, column, kind) for row in range(rows) for column in range(columns) for kind in (0, 1)]
-            for chosen in range(1 << len(squares)):
-                spots = [spot for place, spot in enumerate(squares) if chosen >> place & 1]
-                self.hold(wall(rows, columns, spots) + all_asked(rows, columns))
+    def test_all_walls_of_at_most_three_squares(self):
+        for rows, columns in [(1, 1), (1, 2), (2, 1), (1, 3), (3, 1)]:
+            for ties in every_wall(rows, columns):
+                self.hold(wall(rows, columns, ties) + all_asked(rows, columns))
+
+    def test_all_walls_of_four_squares(self):
+        for rows, columns in [(2, 2), (1, 4), (4, 1)]:
+            for ties in every_wall(rows, columns):
+                self.hold(wall(rows, columns, ties) + LOOK)
 
     def test_lines_of_many_calls(self):
         for seed in range(60):
@@ -79,9 +48,13 @@ class AgainstWays(unittest.TestCase):
         for seed in range(100, 105):
             self.hold(Dice(seed).line(400)[:400])
 
+    def test_lines_on_walls_of_at_most_nine_squares(self):
+        for seed in range(200, 230):
+            self.hold(Dice(seed).line(120, 3))
+
     def test_five_by_five_filled_and_emptied(self):
         dice = Dice(7)
-        squares = [(row, column, kind) for row in range(5) for column in range(5) for kind in (0, 1)]
+        squares = all_spots(5, 5)
         calls = [("begin", 5, 5)]
         for name in ("tie", "free"):
             left = list(squares)

@@ -30,6 +30,16 @@ def reach_table(count, passages):
     return [met_from(count, passages, start) for start in range(count)]
 
 
+def met_by_either(line, other):
+    return [here or there for here, there in zip(line, other)]
+
+
+def table_with(table, step):
+    """The table as it would be if one came from strip step[0] to strip step[1], too."""
+    onward = table[step[1]]
+    return [met_by_either(line, onward) if line[step[0]] else line for line in table]
+
+
 def reached(table, strip):
     return [other for other in range(len(table)) if table[strip][other]]
 
@@ -39,7 +49,10 @@ def together(table, strip):
 
 
 def first_of_part(table, strip):
-    return together(table, strip)[0]
+    for other in range(strip):
+        if table[strip][other] and table[other][strip]:
+            return other
+    return strip
 
 
 def firsts(table):
@@ -65,6 +78,13 @@ def start_firsts(table):
     return [strip for strip in firsts(table) if not is_led_to(table, strip)]
 
 
+def needed_at_least(table):
+    """So many ties more, or more, make it firm: each end needs one that leads out, each start one that leads in."""
+    if len(firsts(table)) == 1:
+        return 0
+    return max(len(end_firsts(table)), len(start_firsts(table)))
+
+
 def may_lean(table, rows, spot):
-    way = passage(rows, spot)
-    return not table[way[0]][way[1]]
+    step = passage(rows, spot)
+    return not table[step[0]][step[1]]
